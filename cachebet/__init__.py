@@ -1,0 +1,1 @@
+"""Caches of few ways, and what their rules lose."""
