@@ -13,6 +13,8 @@ APART = (4, 3, 3, 0, 0, 4, 3, 5, 4, 5, 2, 1, 4, 2, 3, 2, 4, 4, 3, 2)
 # Of each other kind that may be handed in where a refusal is told.
 OTHER_KINDS = ((), (1,), (1, 2), [], [1], "", "1", "came", None, True, False)
 
+FAR_NUMBERS = (-1000, 1000, 10 ** 30, -10 ** 30)
+
 ERROR_CLASSES = ("BadRule", "BadSize", "BadStream", "BadCosts", "BadCount", "BadPage", "NoRoom", "BadName",
                  "NoPoint", "BadPaper", "BadText")
 

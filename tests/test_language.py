@@ -12,6 +12,9 @@ BUILTINS = ("len range enumerate zip min max sum abs sorted reversed int str boo
             "repr any all divmod pow iter next map Exception ValueError TypeError KeyError IndexError LookupError "
             "ZeroDivisionError RuntimeError StopIteration NotImplemented super property staticmethod "
             "classmethod").split()
+BARRED = ("register mro elements open input law version_info with_traceback add_note attrgetter breakpoint builtins "
+          "compile copyright credits delattr dir eval exec exit gc getattr globals hasattr help id importlib license "
+          "locals methodcaller os quit setattr super type vars sys").split()
 STATEMENTS = (ast.Global, ast.AsyncFunctionDef, ast.AsyncFor, ast.AsyncWith)
 
 
@@ -62,6 +65,56 @@ class TestLanguage(unittest.TestCase):
                     self.assertIn(node.id, BUILTINS, name)
                 elif isinstance(node, ast.arg):
                     self.assertNotIn(node.arg, known, name)
+
+    def test_names_that_are_not_used(self):
+        for name, tree in self.each_tree():
+            for word in all_names(tree):
+                self.assertNotIn(word, BARRED, name)
+                self.assertFalse(word.startswith("__") and word != "__init__", (name, word))
+
+    def test_no_local_has_the_name_of_an_import_or_a_class(self):
+        for name, tree in self.each_tree():
+            taken = {alias.name for node in tree.body if isinstance(node, ast.ImportFrom) for alias in node.names}
+            taken |= {node.name for node in tree.body if isinstance(node, ast.ClassDef)}
+            self.assertFalse(taken & set(local_names(tree)), name)
+
+    def test_no_attribute_is_a_method_or_one_of_a_builtin_value(self):
+        methods, attributes = set(), set()
+        for _, tree in self.each_tree():
+            for node in ast.walk(tree):
+                if isinstance(node, ast.ClassDef):
+                    methods |= {part.name for part in node.body if isinstance(part, ast.FunctionDef)}
+                if isinstance(node, ast.Attribute) and isinstance(node.ctx, ast.Store):
+                    attributes.add(node.attr)
+        for value in (0, "", (), [], {}, set(), b""):
+            self.assertFalse((methods | attributes) & set(dir(value)) - {"__init__"})
+        self.assertFalse(methods & attributes)
+
+    def test_no_two_files_import_from_each_other(self):
+        imports = {}
+        for name, tree in self.each_tree():
+            modules = {node.module for node in ast.walk(tree) if isinstance(node, ast.ImportFrom)}
+            imports[name] = {module.split(".")[1] + ".py" for module in modules if module.startswith("cachebet.")}
+        while imports:
+            leaves = [name for name in imports if not imports[name] & set(imports)]
+            self.assertTrue(leaves, imports)
+            imports = {name: imports[name] for name in imports if name not in leaves}
+
+
+def all_names(tree):
+    for node in ast.walk(tree):
+        for field in ("id", "attr", "arg", "name"):
+            word = getattr(node, field, None)
+            if isinstance(word, str):
+                yield word
+
+
+def local_names(tree):
+    for node in ast.walk(tree):
+        if isinstance(node, ast.arg):
+            yield node.arg
+        if isinstance(node, ast.Name) and isinstance(node.ctx, ast.Store):
+            yield node.id
 
 
 if __name__ == "__main__":

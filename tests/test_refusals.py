@@ -4,11 +4,10 @@ import unittest
 
 from cachebet.best import cheapest, farthest
 from cachebet.runs import cruel, curve, run
-from tests.models import APART, OTHER_KINDS, RULES, refused
+from tests.models import APART, FAR_NUMBERS, OTHER_KINDS, RULES, refused
 
 NO_RULES = ("", "Came", "came ", " came", "cam", "lru", "often,clock", 0, 1, True, False, None, (), [], ("came",),
             ["came"], RULES, list(RULES))
-FAR_NUMBERS = (-1000, 1000, 10 ** 30, -10 ** 30)
 NO_SIZES = (0, 7, -1, 8) + FAR_NUMBERS + OTHER_KINDS
 NO_PAGES = (-1, 10, 11) + FAR_NUMBERS + OTHER_KINDS
 NO_STREAMS = ([], [0, 1], list(APART), "", "0 1", "01", 0, 1, 5, -1, None, True, False)
